@@ -1,0 +1,1 @@
+"""Earth hauled along a road's line, as cheaply as can be."""
