@@ -18,6 +18,17 @@ class Road:
         self.borrow_prices = [NO_PIT] * stations
         self.spoil_prices = [NO_PIT] * stations
 
+    def twin(self):
+        """Another road of which the same is told, to ask what would be if it were changed."""
+        other = Road()
+        other.stations = self.stations
+        other.step_cost = self.step_cost
+        other.had = list(self.had)
+        other.needed = list(self.needed)
+        other.borrow_prices = list(self.borrow_prices)
+        other.spoil_prices = list(self.spoil_prices)
+        return other
+
     def surplus(self, i):
         """What station i has beyond its need, below 0 where it lacks."""
         return self.had[i] - self.needed[i]

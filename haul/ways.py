@@ -1,4 +1,4 @@
-"""The cheapest way along a road that has one.
+"""What a way costs, and the cheapest way along a road that has one.
 
 From the last station back to the first, a table tells for each amount what the rest of
 the road costs at least. An amount stands in a table at the amount plus REACH.
@@ -12,7 +12,8 @@ from haul.road import NO_PIT
 # the 9 units of each of 8 stations; with those of one more station added, 81.
 REACH = 81
 
-# More than any way within REACH costs.
+# More than any way within REACH costs: at each of 8 stations less than 200 units at a pit for 50,
+# and REACH units hauled for 10.
 NEVER = 1000000
 
 
@@ -29,6 +30,16 @@ def cheapest_way(road):
         came = first_onward(road, i, came, tables)
         way.append(came)
     return way
+
+
+def way_cost(road, way):
+    """What the way costs; NEVER or more where it is none, for want of a pit."""
+    cost = 0
+    came = 0
+    for i in range(road.stations):
+        cost += onward_cost(road, i, came + road.surplus(i), way[i])
+        came = way[i]
+    return cost
 
 
 def pit_amounts(road, way):

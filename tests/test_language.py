@@ -112,6 +112,34 @@ class Language(unittest.TestCase):
             names += [node.name for node in tree.body if isinstance(node, (ast.FunctionDef, ast.ClassDef))]
             self.assertEqual(len(names), len(set(names)), path)
 
+    def test_the_top_of_a_file_holds_plain_values_and_its_own_functions(self):
+        for path, tree in trees():
+            functions = [node.name for node in tree.body if isinstance(node, ast.FunctionDef)]
+            for node in tree.body:
+                if isinstance(node, ast.Assign):
+                    for part in ast.walk(node.value):
+                        kinds = (ast.Tuple, ast.Constant, ast.UnaryOp, ast.USub, ast.Name, ast.Load)
+                        self.assertIsInstance(part, kinds, path)
+                        self.assertTrue(not isinstance(part, ast.Name) or part.id in functions, path)
+                else:
+                    self.assertIsInstance(node, (ast.Expr, ast.ImportFrom, ast.FunctionDef, ast.ClassDef), path)
+
+    def test_no_local_is_called_like_what_stands_at_the_top(self):
+        for path, tree in trees():
+            top = [alias.asname or alias.name for node in tree.body if isinstance(node, ast.ImportFrom)
+                   for alias in node.names]
+            top += [node.name for node in tree.body if isinstance(node, (ast.FunctionDef, ast.ClassDef))]
+            for function in defs(tree):
+                for name in bound_names(ast.Module(function.body, [])) + [arg.arg for arg in function.args.args]:
+                    self.assertNotIn(name, top, (path, function.name))
+
+    def test_keywords(self):
+        for path, tree in trees():
+            for node in ast.walk(tree):
+                if isinstance(node, ast.Call) and node.keywords:
+                    self.assertIn(node.func.id, ("min", "max", "sorted"), path)
+                    self.assertLessEqual({keyword.arg for keyword in node.keywords}, {"key", "default"}, path)
+
     def test_methods(self):
         own = [function.name for path, tree in trees() for node in ast.walk(tree)
                if isinstance(node, ast.ClassDef) for function in defs(node)]

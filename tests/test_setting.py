@@ -2,20 +2,10 @@
 
 import unittest
 
-from helper import LOOKS, MOST, last, told
+from helper import FULL, LOOKS, MOST, NAMES, last, shown, told
 
-# Each station has earth, needs some, and has both pits.
-FULL = "begin 2 3, have 0 5, have 1 2, need 0 1, need 1 8, borrow 0 4, borrow 1 40, spoil 0 7, spoil 1 9"
-
-# Each call answers what was told before, so that this shows all that the object holds.
-SHOW = ("have 0 0, have 1 0, need 0 0, need 1 0, noborrow 0, noborrow 1, nospoil 0, nospoil 1, step 1, "
-        "have 2 0, have 7 0")
-FULL_SHOWN = [[5], [2], [1], [8], [4], [40], [7], [9], [3], [-2], [-2]]
-
-
-def shown(text):
-    """All that the object holds after the calls of the text, looks first."""
-    return told(text + ", " + ", ".join(LOOKS) + ", " + SHOW)[-len(LOOKS) - len(FULL_SHOWN):]
+FULL_SHOWN = [[5, 1, 5, 8], [2, 8, 41, 10], [-2], [-2],
+              [5], [2], [1], [8], [4], [40], [7], [9], [3], [-2], [-2]]
 
 
 class Begin(unittest.TestCase):
@@ -57,10 +47,19 @@ class Begin(unittest.TestCase):
 
 
 class NotBegun(unittest.TestCase):
+    FORTY = " 72" * 40
     OTHERS = ("have 0 0", f"have {MOST} {MOST}", "have 0 10", "need 0 0", f"need {MOST} {MOST}", "need 9 10",
               "borrow 0 0", "borrow 9 51", f"borrow {MOST} {MOST}", "noborrow 0", f"noborrow {MOST}",
               "spoil 0 0", "spoil 9 51", f"spoil {MOST} {MOST}", "nospoil 0", f"nospoil {MOST}",
-              "step 1", "step 0", f"step {MOST}") + LOOKS
+              "step 1", "step 0", f"step {MOST}",
+              "try_way", "try_way 72", "try_way 145", "try_way 65535 65535", "try_way" + FORTY,
+              "bound", "bound 130 130", "bound 261", "bound 65535 65535", "bound" + FORTY,
+              "ifstep 1", "ifstep 0", f"ifstep {MOST}", "ifpit 0 0", "ifpit 9 51", f"ifpit {MOST} {MOST}",
+              "bestpit 0", "bestpit 51", f"bestpit {MOST}", "without 0", f"without {MOST}",
+              "station 0", f"station {MOST}") + LOOKS
+
+    def test_all_calls_but_begin_are_among_them(self):
+        self.assertEqual({call.split()[0] for call in self.OTHERS}, set(NAMES) - {"begin"})
 
     def test_every_other_call_on_a_new_object(self):
         for call in self.OTHERS:
@@ -71,6 +70,16 @@ class NotBegun(unittest.TestCase):
         for refused in ("begin 1 1", "begin 9 1", "begin 2 0", "begin 2 11", f"begin {MOST} {MOST}"):
             for call in self.OTHERS:
                 self.assertEqual(told(f"{refused}, {call}"), [[-22], [-11]], call)
+
+    def test_the_calls_behind_are_read_as_they_stand(self):
+        for call in self.OTHERS:
+            self.assertEqual(told(f"{call}, begin 3 4, have 2 5, spoil 2 1, state, station 2, cost"),
+                             [[-11], [0], [0], [0], [0, 3, 4, 0, 1], [5, 0, 0, 2], [5]], call)
+
+    def test_a_row_of_what_looks_like_calls_is_a_row(self):
+        self.assertEqual(told("try_way 0 2 1 8, bound 0 2 1, can"), [[-11]] * 3)
+        self.assertEqual(told("begin 2 1, try_way 0 3 1 8, bound 0 3 1, state"),
+                         [[0], [-22], [-22], [0, 2, 1, 0, 0]])
 
     def test_what_was_told_before_is_not_kept(self):
         self.assertEqual(shown("have 0 3, borrow 1 4, step 9, " + "begin 2 2"), shown("begin 2 2"))
@@ -147,7 +156,12 @@ class Unchanged(unittest.TestCase):
         for refused in ("have 2 3", "have 0 10", f"have {MOST} {MOST}", "need 2 3", "need 1 10", f"need 0 {MOST}",
                         "borrow 2 3", "borrow 0 51", f"borrow 1 {MOST}", "noborrow 2", f"noborrow {MOST}",
                         "spoil 2 3", "spoil 0 51", f"spoil 1 {MOST}", "nospoil 2", f"nospoil {MOST}",
-                        "step 0", "step 11", f"step {MOST}"):
+                        "step 0", "step 11", f"step {MOST}",
+                        "try_way", "try_way 145", "try_way 72 72", "try_way 65535", "try_way" + " 72" * 40,
+                        "bound", "bound 130", "bound 261 130", "bound 130 130 130", "bound 135 131", "bound 65535 0",
+                        "bound" + " 130" * 40, "ifstep 0", "ifstep 11", f"ifstep {MOST}",
+                        "ifpit 2 1", "ifpit 0 51", f"ifpit {MOST} {MOST}", "bestpit 51", f"bestpit {MOST}",
+                        "without 2", f"without {MOST}", "station 2", f"station {MOST}"):
             self.assertLess(last(f"{FULL}, {refused}")[0], 0)
             self.assertEqual(shown(f"{FULL}, {refused}"), shown(FULL), refused)
 
@@ -157,8 +171,11 @@ class Unchanged(unittest.TestCase):
             self.assertEqual(shown(f"{text}, {refused}"), shown(text))
 
     def test_looking_changes_nothing(self):
-        for text in (FULL, "begin 2 1, have 0 4", "begin 3 2, need 1 9, borrow 2 50"):
-            for look in LOOKS:
+        looks = LOOKS + ("try_way 72", "try_way 77", "try_way 0", "bound 130 130", "bound 131 133",
+                         "ifstep 1", "ifstep 3", "ifstep 10", "ifpit 0 0", "ifpit 1 50", "ifpit 1 3",
+                         "bestpit 0", "bestpit 4", "bestpit 50", "without 0", "without 1", "station 0", "station 1")
+        for text in (FULL, "begin 2 1, have 0 4", "begin 2 1, have 0 4, need 1 4", "begin 3 2, need 1 9, borrow 2 50"):
+            for look in looks:
                 self.assertEqual(shown(f"{text}, {look}"), shown(text))
                 self.assertEqual(told(f"{text}, {look}, {look}")[-1], last(f"{text}, {look}"))
 
